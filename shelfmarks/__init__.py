@@ -1,0 +1,1 @@
+"""Shelves filled up to a mark."""
