@@ -90,11 +90,11 @@ def by_marks(costs, room, rows, marks):
     return outlook
 
 
-def best_marks(costs, room, rows, days):
-    """The mark for 1 day to come, for 2, and so on."""
+def best_ups(costs, room, rows, days):
+    """By what's there, up to how many it's best filled: for 1 day to come, for 2, and so on."""
     outlook = Outlook(costs, room, rows)
-    marks = []
+    ups = []
     for day in range(days):
         outlook.put_best_day()
-        marks.append(outlook.ups[0])
-    return marks
+        ups.append(outlook.ups)
+    return ups

@@ -6,11 +6,22 @@ MOST_WANTED = 20
 MOST_OFTEN = 100
 MOST_ROWS = 6
 MOST_DAYS = 5
+MOST_PLAYED = 1000
 
 
 def costs_fit(costs):
     """Whether bought, kept and missed are as they may be told."""
     return max(costs) <= MOST_COST and costs[0] <= costs[2]
+
+
+def with_kept(costs, kept):
+    """The costs, but a kept one costs so much."""
+    return (costs[0], kept, costs[2])
+
+
+def with_missed(costs, missed):
+    """The costs, but a missed one costs so much."""
+    return (costs[0], costs[1], missed)
 
 
 def room_fits(room):

@@ -3,6 +3,7 @@ second reckoning in fractions, straight from the document's words."""
 
 from fractions import Fraction
 from functools import lru_cache
+from itertools import product
 from random import Random
 
 from shelfmarks.store import answers
@@ -51,8 +52,49 @@ def bymarks(x, *told):
     return [9, x, len(told), *told]
 
 
+def same(n, x, s):
+    return [10, n, x, s]
+
+
+def play(x, *wanted):
+    return [11, x, len(wanted), *wanted]
+
+
+def more(n, x):
+    return [12, n, x]
+
+
+def dear(n, m):
+    return [13, n, m]
+
+
+def keeping(n, k):
+    return [14, n, k]
+
+
+def mean():
+    return [15]
+
+
+def day(y):
+    return [16, y]
+
+
+def saves(n, x):
+    return [17, n, x]
+
+
+def chances():
+    return [18]
+
+
+def state():
+    return [19]
+
+
 def ask(*calls):
     """The answer of each call, made in order on one new object."""
+    assert 1 <= len(calls) <= 400, len(calls)
     given = answers([number for call in calls for number in call])
     split, place = [], 0
     while place < len(given):
@@ -72,15 +114,26 @@ def told(costs, room, rows):
     return [begin(*costs, room)] + [chance(*row) for row in rows]
 
 
+def asked_of(shelf, *calls):
+    """The answers of the calls alone, made on a shelf (costs, room, rows)."""
+    return ask(*told(*shelf), *calls)[1 + len(shelf[2]):]
+
+
+def questions(room):
+    """Every call that looks at the chances; these answer by the share of each row."""
+    asked = [marks(), mean()]
+    for x in sorted({0, room // 2, room, room + 1}):
+        asked.append(day(x))
+        for n in range(1, 6):
+            asked += [up(n, x), value(n, x), fill(n, x), more(n, x), same(n, x, room // 2), saves(n, x)]
+    for n in range(1, 6):
+        asked += [mark(n), bymarks(0, *[room] * n), play(0, *[room // 2] * n), dear(n, 1000), keeping(n, 0)]
+    return asked
+
+
 def every_question(room):
     """Calls that change nothing and by which any change would be seen."""
-    asked = [marks()]
-    for n in range(1, 6):
-        asked.append(mark(n))
-        for x in range(room + 2):
-            asked += [up(n, x), value(n, x), fill(n, x)]
-        asked.append(bymarks(0, *[room] * n))
-    return asked
+    return [chances(), state()] + questions(room)
 
 
 def pair(fraction):
@@ -126,6 +179,33 @@ class Reckoning:
             return Fraction(0)
         y = x if x > day_marks[-1] else day_marks[-1]
         return self.day(x, y, lambda left: self.by_marks(left, day_marks[:-1]))
+
+    def play(self, x, wanted):
+        """What is answered, number by number."""
+        cost, numbers = 0, []
+        for gone, pieces in enumerate(wanted):
+            y = self.up(len(wanted) - gone, x)
+            bought, x, missing = y - x, max(y - pieces, 0), max(pieces - y, 0)
+            cost += self.bought * bought + self.kept * x + self.missed * missing
+            numbers += [bought, x, missing]
+        return [cost] + numbers
+
+    def mean(self):
+        each = [wanted for wanted, often in self.rows for time in range(often)]
+        return Fraction(sum(each), len(each))
+
+    def any_way(self, n, x):
+        """What is to be looked for by each way at all: a choice for each course of the days."""
+        if n == 0:
+            return [Fraction(0)]
+        found = []
+        for y in range(x, self.room + 1):
+            behind = [self.any_way(n - 1, max(y - wanted, 0)) for wanted, often in self.rows]
+            today = self.day(x, y, lambda left: 0)
+            together = sum(often for wanted, often in self.rows)
+            for course in product(*behind):
+                found.append(today + sum(Fraction(row[1], together) * cost for row, cost in zip(self.rows, course)))
+        return found
 
 
 def some_shelves(how_many, seed):

@@ -75,6 +75,32 @@ class Language(unittest.TestCase):
             self.assertEqual(node.level, 0, (name, node.lineno))
             self.assertTrue(node.module.startswith("shelfmarks."), (name, node.lineno))
 
+    def test_imports_come_from_the_file_that_defines_the_name(self):
+        at_top = {"shelfmarks." + path.stem: [node.name for node in tree.body if hasattr(node, "name")]
+                  + [node.targets[0].id for node in tree.body if isinstance(node, ast.Assign)]
+                  for path, tree in self.trees.items()}
+        for name, node in self.nodes(ast.ImportFrom):
+            for drawn in node.names:
+                self.assertIn(drawn.name, at_top[node.module], (name, node.lineno))
+        for module, names in at_top.items():
+            self.assertEqual(len(names), len(set(names)), module)
+
+    def test_no_two_files_draw_from_one_another(self):
+        left = {"shelfmarks." + path.stem: {node.module for node in tree.body if isinstance(node, ast.ImportFrom)}
+                for path, tree in self.trees.items()}
+        while left:
+            free = [module for module, drawn in left.items() if not drawn & set(left)]
+            self.assertNotEqual(free, [], sorted(left))
+            left = {module: drawn for module, drawn in left.items() if module not in free}
+
+    def test_no_local_is_called_like_an_import_or_a_class(self):
+        for path, tree in self.trees.items():
+            taken = [drawn.name for node in tree.body if isinstance(node, ast.ImportFrom) for drawn in node.names]
+            taken += [node.name for node in tree.body if isinstance(node, ast.ClassDef)]
+            for function in [node for node in ast.walk(tree) if isinstance(node, ast.FunctionDef)]:
+                local = set(bound_names(function)) - {function.name}
+                self.assertEqual(sorted(local & set(taken)), [], (path.name, function.name))
+
     def test_names(self):
         for path, tree in self.trees.items():
             for bound in bound_names(tree):

@@ -1,10 +1,11 @@
-"""begin, chance, never, prices: what is told, and what is refused of it."""
+"""begin, chance, never, prices: what is told, and what is refused of it; chances, state: what it is now."""
 
 import unittest
 
 from tests.helper import (
     HUGE, NONE, NOT_BEGUN, RANGE, TOO_MANY,
-    ask, begin, bymarks, chance, every_question, fill, last, mark, marks, never, prices, told, up, value,
+    ask, begin, bymarks, chance, chances, day, dear, every_question, fill, keeping, last, mark, marks, mean, more,
+    never, play, prices, same, saves, state, told, up, value,
 )
 
 
@@ -57,9 +58,13 @@ class Begin(unittest.TestCase):
 class NotBegun(unittest.TestCase):
     others = [
         chance(3, 1), never(3), prices(1, 1, 1), mark(1), marks(), up(1, 0), value(1, 0), fill(1, 0), bymarks(0, 1),
+        same(1, 0, 0), play(0, 1), more(1, 0), dear(1, 1), keeping(1, 1), mean(), day(0), saves(1, 0),
+        chances(), state(),
     ]
     wrong = [
         chance(21, 0), prices(2, 1, 1), mark(0), up(6, 0), value(1, 21), fill(0, HUGE), bymarks(0), bymarks(HUGE, 1),
+        same(0, HUGE, HUGE), play(0), play(0, *[HUGE] * 8), more(0, HUGE), dear(0, HUGE), keeping(0, HUGE), day(HUGE),
+        saves(0, HUGE),
     ]
 
     def test_all_others_answer_not_begun(self):
@@ -158,6 +163,41 @@ class Prices(unittest.TestCase):
 
     def test_no_chances_are_needed(self):
         self.assertEqual(last(begin(2, 1, 5, 10), prices(1, 1, 1)), [0, 2, 1, 5])
+
+
+class ChancesAndState(unittest.TestCase):
+    start = told((2, 1, 5), 10, [(3, 1), (1, 10), (3, 20)])
+
+    def both(self, *calls):
+        return ask(*self.start, *calls, chances(), state())[-2:]
+
+    def test_rows_as_they_were_told(self):
+        self.assertEqual(self.both(), [[3, 3, 1, 1, 10, 3, 20], [31, 2, 1, 5, 10]])
+
+    def test_no_chances_are_needed(self):
+        self.assertEqual(ask(begin(0, 1000, 7, 20), chances(), state()), [[0], [0], [0, 0, 1000, 7, 20]])
+
+    def test_six_rows(self):
+        six = told((0, 0, 0), 1, [(20, 100)] * 6)
+        self.assertEqual(ask(*six, chances(), state())[-2:], [[6] + [20, 100] * 6, [600, 0, 0, 0, 1]])
+
+    def test_after_never(self):
+        self.assertEqual(self.both(never(3)), [[1, 1, 10], [10, 2, 1, 5, 10]])
+        self.assertEqual(self.both(never(1)), [[2, 3, 1, 3, 20], [21, 2, 1, 5, 10]])
+        self.assertEqual(self.both(never(1), never(3)), [[0], [0, 2, 1, 5, 10]])
+        self.assertEqual(self.both(never(3), chance(3, 4)), [[2, 1, 10, 3, 4], [14, 2, 1, 5, 10]])
+
+    def test_after_prices(self):
+        self.assertEqual(self.both(prices(7, 8, 9)), [[3, 3, 1, 1, 10, 3, 20], [31, 7, 8, 9, 10]])
+
+    def test_after_a_second_begin(self):
+        self.assertEqual(self.both(begin(4, 3, 6, 8)), [[0], [0, 4, 3, 6, 8]])
+        self.assertEqual(self.both(begin(4, 3, 6, 8), chance(2, 2)), [[1, 2, 2], [2, 4, 3, 6, 8]])
+
+    def test_after_what_is_refused(self):
+        for refused in (never(2), prices(6, 1, 5), prices(0, 1001, 0), begin(6, 1, 5, 3), begin(1, 1, 1, 21),
+                        chance(21, 1), chance(1, 0)):
+            self.assertEqual(self.both(refused), self.both(), refused)
 
 
 if __name__ == "__main__":
